@@ -1,0 +1,1 @@
+"""Deltawires: designs of wires and blocks, run by events and by their net."""

@@ -1,0 +1,139 @@
+"""Point [2] and the interface: how things are handed in and told."""
+
+import inspect
+import unittest
+
+from deltawires import bits, errors, tables
+from samples import values_of_width
+
+SIGNATURES = {
+    (bits, "is_value"): "(thing, *, width=0)",
+    (bits, "read"): "(value)",
+    (bits, "fillings"): "(value)",
+    (bits, "number_of"): "(value)",
+    (bits, "value_of"): "(number, *, width=8)",
+    (bits, "covers"): "(one, other)",
+    (bits, "mixed"): "(one, other)",
+    (bits, "resolved"): "(values)",
+    (tables, "operated"): "(word, values, *, high=0, low=0)",
+}
+
+
+class Interface(unittest.TestCase):
+    def test_each_function_has_the_arguments_told_and_stands_in_its_file(self):
+        for (module, name), expected in SIGNATURES.items():
+            with self.subTest(name):
+                function = getattr(module, name)
+                self.assertTrue(inspect.isfunction(function))
+                self.assertEqual(str(inspect.signature(function)), expected)
+                self.assertEqual(function.__module__, module.__name__)
+
+    def test_by_the_names_told(self):
+        self.assertIs(bits.is_value(thing="01", width=2), True)
+        self.assertEqual(bits.read(value="z1"), "x1")
+        self.assertEqual(bits.fillings(value="x1"), ["01", "11"])
+        self.assertEqual(bits.number_of(value="11"), 3)
+        self.assertEqual(bits.value_of(width=3, number=3), "011")
+        self.assertIs(bits.covers(other="01", one="0x"), True)
+        self.assertEqual(bits.mixed(other="01", one="11"), "x1")
+        self.assertEqual(bits.resolved(values=["z1", "0z"]), "01")
+        self.assertEqual(tables.operated(values=["0101"], word="part", low=1, high=2), "10")
+
+    def test_behind_a_star_by_name_alone(self):
+        with self.assertRaises(TypeError):
+            bits.is_value("01", 2)
+        with self.assertRaises(TypeError):
+            bits.value_of(3, 3)
+        with self.assertRaises(TypeError):
+            tables.operated("part", ["0101"], 2, 1)
+
+
+class HandedIn(unittest.TestCase):
+    def test_lists_are_not_changed(self):
+        values = ["0z1x", "zz1z", "0zxz"]
+        bits.resolved(values)
+        self.assertEqual(values, ["0z1x", "zz1z", "0zxz"])
+        cases = (
+            ("not", ["z1"]), ("and", ["z1", "xz"]), ("or", ["z1", "xz"]), ("xor", ["z1", "xz"]),
+            ("plus", ["z1", "xz"]), ("same", ["z1", "xz"]), ("less", ["z1", "xz"]), ("any", ["z1"]),
+            ("all", ["z1"]), ("pick", ["z", "z1", "xz"]), ("join", ["z1", "xz"]), ("part", ["z1"]),
+        )
+        for word, handed in cases:
+            kept = list(handed)
+            tables.operated(word, handed)
+            self.assertEqual(handed, kept, word)
+
+    def test_what_is_done_later_to_a_list_handed_in_has_no_bearing(self):
+        values = ["0z", "zz"]
+        first = bits.resolved(values)
+        values[0] = "11"
+        values.append("zz")
+        self.assertEqual(first, "0z")
+        self.assertEqual(bits.resolved(["0z", "zz"]), "0z")
+        self.assertEqual(bits.resolved(values), "11")
+
+
+class Told(unittest.TestCase):
+    def test_a_told_list_that_is_changed_changes_no_later_answer(self):
+        told = bits.fillings("x0")
+        told.append("11")
+        told[0] = "zz"
+        self.assertEqual(bits.fillings("x0"), ["00", "10"])
+        bits.fillings("x0").clear()
+        self.assertEqual(bits.fillings("x0"), ["00", "10"])
+
+    def test_no_two_told_lists_are_one(self):
+        for value in ("0", "1", "x", "x0", "xxxxxxxx"):
+            self.assertIsNot(bits.fillings(value), bits.fillings(value))
+
+    def test_asked_again_and_of_something_else_between(self):
+        values = values_of_width(2)
+
+        def all_answers(pairs):
+            return {
+                (one, other): (
+                    bits.read(one), bits.fillings(one), bits.covers(one, other), bits.mixed(one, other),
+                    bits.resolved([one, other]), bits.is_value(one),
+                    [tables.operated(word, [one, other]) for word in ("and", "plus", "less", "join")],
+                )
+                for one, other in pairs
+            }
+
+        pairs = [(one, other) for one in values for other in values]
+        self.assertEqual(all_answers(pairs), all_answers(list(reversed(pairs))))
+
+    def test_a_refusal_between_changes_nothing(self):
+        self.assertEqual(bits.value_of(3, width=2), "11")
+        with self.assertRaises(errors.NoValue):
+            bits.value_of(4, width=2)
+        with self.assertRaises(errors.NoNumber):
+            bits.number_of("1x")
+        self.assertEqual(bits.value_of(3, width=2), "11")
+        self.assertEqual(bits.number_of("11"), 3)
+
+    def test_truths_are_true_or_false(self):
+        for thing in ("", "0", "012", "000000000", None, [], 0, 1, {}):
+            for width in range(9):
+                self.assertIs(type(bits.is_value(thing, width=width)), bool)
+        for one in values_of_width(2):
+            for other in values_of_width(2):
+                self.assertIs(type(bits.covers(one, other)), bool)
+
+    def test_true_and_false_are_no_whole_numbers(self):
+        for width in range(1, 9):
+            for truth in (True, False):
+                with self.assertRaises(errors.NoValue):
+                    bits.value_of(truth, width=width)
+
+    def test_kinds_of_what_is_told(self):
+        self.assertIs(type(bits.read("z")), str)
+        self.assertIs(type(bits.fillings("z")), list)
+        self.assertIs(type(bits.number_of("1")), int)
+        self.assertIs(type(bits.value_of(1)), str)
+        self.assertIs(type(bits.mixed("z", "1")), str)
+        self.assertIs(type(bits.resolved(["z"])), str)
+        self.assertIs(type(tables.operated("not", ["z"])), str)
+
+
+if __name__ == "__main__":
+    unittest.main()
