@@ -7,6 +7,11 @@ SIGNS = "01xz"
 TOLD = "01"
 
 
+def is_whole(thing):
+    """Whether a thing is a whole number; True and False are none."""
+    return isinstance(thing, int) and not isinstance(thing, bool)
+
+
 def is_value(thing, *, width=0):
     """Whether a thing is a value, of that width if it is not 0."""
     if not isinstance(thing, str) or not 1 <= len(thing) <= WIDEST:
@@ -14,6 +19,11 @@ def is_value(thing, *, width=0):
     if width != 0 and len(thing) != width:
         return False
     return all([sign in SIGNS for sign in thing])
+
+
+def is_put_value(thing, *, width=0):
+    """Whether a thing is a value without z, of that width if it is not 0: inputs and kept signals have no other."""
+    return is_value(thing, width=width) and "z" not in thing
 
 
 def read(value):
@@ -43,7 +53,7 @@ def number_of(value):
 
 def value_of(number, *, width=WIDEST):
     """The value of that width that writes the number; NoValue where there is none."""
-    if not isinstance(number, int) or isinstance(number, bool):
+    if not is_whole(number):
         raise NoValue("it is no whole number")
     if number < 0 or number.bit_length() > width:
         raise NoValue("the width cannot write it")

@@ -3,6 +3,21 @@
 from deltawires.bits import mixed, read
 
 WORDS = ("not", "and", "or", "xor", "plus", "same", "less", "any", "all", "pick", "join", "part")
+# How many values each operator has; the two numbers of part are no values.
+ARGUMENTS = {
+    "not": 1,
+    "and": 2,
+    "or": 2,
+    "xor": 2,
+    "plus": 2,
+    "same": 2,
+    "less": 2,
+    "any": 1,
+    "all": 1,
+    "pick": 3,
+    "join": 2,
+    "part": 1,
+}
 TURNED = {"0": "1", "1": "0", "x": "x"}
 
 

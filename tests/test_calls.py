@@ -3,7 +3,8 @@
 import inspect
 import unittest
 
-from deltawires import bits, errors, tables
+from deltawires import bits, designs, designtexts, errors, tables, terms, termtexts
+from designsamples import BLOCKS, SIGNALS, TEXT
 from samples import values_of_width
 
 SIGNATURES = {
@@ -16,6 +17,29 @@ SIGNATURES = {
     (bits, "mixed"): "(one, other)",
     (bits, "resolved"): "(values)",
     (tables, "operated"): "(word, values, *, high=0, low=0)",
+    (terms, "is_name"): "(thing)",
+    (terms, "is_term"): "(thing)",
+    (terms, "width_of"): "(term, widths)",
+    (terms, "names_in"): "(term)",
+    (terms, "times_in"): "(term, name)",
+    (terms, "value_of_term"): "(term, values)",
+    (termtexts, "term_text"): "(term)",
+    (termtexts, "read_term"): "(text)",
+    (designtexts, "design_text"): "(design)",
+    (designtexts, "read_design"): "(text)",
+}
+CLASSES = {
+    (designs, "Design"): {
+        "__init__": "(self, signals, blocks=())",
+        "signals": "(self)",
+        "blocks": "(self)",
+        "names": "(self, *, sort='')",
+        "sort_of": "(self, name)",
+        "width_of_signal": "(self, name)",
+        "what_of": "(self, name)",
+        "origins": "(self, name)",
+        "is_chain": "(self, name)",
+    },
 }
 
 
@@ -27,6 +51,35 @@ class Interface(unittest.TestCase):
                 self.assertTrue(inspect.isfunction(function))
                 self.assertEqual(str(inspect.signature(function)), expected)
                 self.assertEqual(function.__module__, module.__name__)
+
+    def test_each_class_has_its_methods_in_itself_and_stands_in_its_file(self):
+        for (module, name), methods in CLASSES.items():
+            made = getattr(module, name)
+            self.assertTrue(inspect.isclass(made))
+            self.assertEqual(made.__module__, module.__name__)
+            for method, expected in methods.items():
+                with self.subTest(name=name, method=method):
+                    self.assertIn(method, vars(made))
+                    self.assertEqual(str(inspect.signature(vars(made)[method])), expected)
+
+    def test_terms_and_designs_by_the_names_told(self):
+        self.assertIs(terms.is_name(thing="a"), True)
+        self.assertIs(terms.is_term(thing=("of", "a")), True)
+        self.assertEqual(terms.width_of(widths={"a": 2}, term=("of", "a")), 2)
+        self.assertEqual(terms.names_in(term=("of", "a")), ["a"])
+        self.assertEqual(terms.times_in(name="a", term=("of", "a")), 1)
+        self.assertEqual(terms.value_of_term(values={"a": "z"}, term=("of", "a")), "x")
+        self.assertEqual(termtexts.term_text(term=("of", "a")), "a")
+        self.assertEqual(termtexts.read_term(text="a"), ("of", "a"))
+        design = designs.Design(blocks=BLOCKS, signals=SIGNALS)
+        self.assertEqual(design.names(sort="wire"), ["w"])
+        self.assertEqual(design.sort_of(name="w"), "wire")
+        self.assertEqual(design.width_of_signal(name="w"), 4)
+        self.assertEqual(design.what_of(name="q"), "00x1")
+        self.assertEqual(design.origins(name="w"), ["d", "q"])
+        self.assertIs(design.is_chain(name="w"), False)
+        self.assertEqual(designtexts.design_text(design=design), TEXT)
+        self.assertEqual(designtexts.read_design(text=TEXT), design)
 
     def test_by_the_names_told(self):
         self.assertIs(bits.is_value(thing="01", width=2), True)

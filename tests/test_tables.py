@@ -4,45 +4,12 @@ import itertools
 import unittest
 
 from deltawires.tables import WORDS, operated
-from samples import SIGNS, drawn_value, filled, source_of, texts, values_of_width
+from oracles import ON_TOLD, by_fillings
+from samples import SIGNS, drawn_value, source_of, texts, values_of_width
 
 WIDTHS = range(1, 9)
-
-
-def written(number, width):
-    return format(number, "b").zfill(width)
-
-
-def bits(rule):
-    """What a rule of two truths gives, bit by bit, for two told values."""
-    return lambda a, b: "".join([str(int(rule(s == "1", t == "1"))) for s, t in zip(a, b)])
-
-
-def truth(rule):
-    return lambda *values: str(int(rule(*values)))
-
-
-ON_TOLD = {
-    "not": lambda a: written(2 ** len(a) - 1 - int(a, 2), len(a)),
-    "and": bits(lambda s, t: s and t),
-    "or": bits(lambda s, t: s or t),
-    "xor": bits(lambda s, t: s != t),
-    "plus": lambda a, b: written((int(a, 2) + int(b, 2)) % 2 ** len(a), len(a)),
-    "same": truth(lambda a, b: int(a, 2) == int(b, 2)),
-    "less": truth(lambda a, b: int(a, 2) < int(b, 2)),
-    "any": truth(lambda a: int(a, 2) > 0),
-    "all": truth(lambda a: int(a, 2) == 2 ** len(a) - 1),
-    "pick": lambda c, a, b: a if c == "1" else b,
-    "join": lambda a, b: a + b,
-}
 PAIRED = ("and", "or", "xor", "plus", "same", "less")
 ALONE = ("not", "any", "all")
-
-
-def by_fillings(action, values):
-    """Where all that the action gives for the fillings is alike, that, else x."""
-    told = [action(*chosen) for chosen in itertools.product(*[filled(value) for value in values])]
-    return "".join([signs[0] if len(set(signs)) == 1 else "x" for signs in zip(*told)])
 
 
 class Operators(unittest.TestCase):

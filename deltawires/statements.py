@@ -1,0 +1,56 @@
+"""Bodies of blocks: tuples of statements, some of them within others."""
+
+from deltawires.terms import has_width
+
+MOST_STATEMENTS = 20
+DEEPEST_STATEMENT = 4
+
+
+def is_shell_statement(thing, widths, kept):
+    """Whether a thing is a statement, whatever stands in the bodies within it."""
+    if not isinstance(thing, tuple) or not 3 <= len(thing) <= 4 or not isinstance(thing[0], str):
+        return False
+    if thing[0] == "if":
+        bodies = thing[2:]
+        return len(thing) == 4 and has_width(thing[1], widths, 1) and all([isinstance(body, tuple) for body in bodies])
+    if thing[0] not in ("now", "later") or len(thing) != 3:
+        return False
+    name = thing[1]
+    return isinstance(name, str) and name in kept and has_width(thing[2], widths, widths[name])
+
+
+def bodies_of(statement):
+    """The two bodies of an if, of another statement none."""
+    return list(statement[2:]) if statement[0] == "if" else []
+
+
+def is_body(thing, widths, kept):
+    """Whether a thing is a body, by all signals' widths and a list of the kept ones' names."""
+    if not isinstance(thing, tuple):
+        return False
+    level = list(thing)
+    many = 0
+    # Level by level, so that nothing is looked at beyond the bounds, however often one tuple stands in others.
+    for turn in range(DEEPEST_STATEMENT):
+        many += len(level)
+        if many > MOST_STATEMENTS or not all([is_shell_statement(inner, widths, kept) for inner in level]):
+            return False
+        level = [inner for statement in level for body in bodies_of(statement) for inner in body]
+        if not level:
+            return True
+    return False
+
+
+def every_statement(body):
+    """All statements of a body, those within others too."""
+    found = []
+    for statement in body:
+        found.append(statement)
+        for inner in bodies_of(statement):
+            found.extend(every_statement(inner))
+    return found
+
+
+def names_set(body, word):
+    """The names that a body sets anywhere by now or by later, the word told, each as often as it stands."""
+    return [statement[1] for statement in every_statement(body) if statement[0] == word]
