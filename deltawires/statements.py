@@ -54,3 +54,36 @@ def every_statement(body):
 def names_set(body, word):
     """The names that a body sets anywhere by now or by later, the word told, each as often as it stands."""
     return [statement[1] for statement in every_statement(body) if statement[0] == word]
+
+
+def behind_if(statement, values, ahead, told, chosen):
+    """As behind_body, for an if alone."""
+    word, term, first, second = statement
+    choice = told(term, {**values, **ahead[0]})
+    # What a term is in gates is neither sign, so that there both bodies are gone through.
+    if choice == "1":
+        return behind_body(first, values, ahead, told, chosen)
+    if choice == "0":
+        return behind_body(second, values, ahead, told, chosen)
+    one = behind_body(first, values, ahead, told, chosen)
+    other = behind_body(second, values, ahead, told, chosen)
+    return chosen(choice, one[0], other[0], values), chosen(choice, one[1], other[1], values)
+
+
+def behind_body(body, values, ahead, told, chosen):
+    """A tuple of two dicts, of what is set now and of what is told for later, behind a body.
+
+    Values and gates go the same way through a body: told gives what a term is where things stand, chosen what is
+    behind an if that goes either way, by what its term is and by a dict behind each of its bodies. Ahead are the two
+    dicts ahead of the body, which are not changed.
+    """
+    now = dict(ahead[0])
+    later = dict(ahead[1])
+    for statement in body:
+        if statement[0] == "if":
+            now, later = behind_if(statement, values, (now, later), told, chosen)
+        elif statement[0] == "now":
+            now[statement[1]] = told(statement[2], {**values, **now})
+        else:
+            later[statement[1]] = told(statement[2], {**values, **now})
+    return now, later

@@ -3,7 +3,9 @@
 import inspect
 import unittest
 
-from deltawires import bits, designs, designtexts, errors, tables, terms, termtexts
+from deltawires import (
+    bits, bodies, designs, designtexts, errors, netruns, nets, settling, tables, terms, termtexts,
+)
 from designsamples import BLOCKS, SIGNALS, TEXT
 from samples import values_of_width
 
@@ -27,6 +29,8 @@ SIGNATURES = {
     (termtexts, "read_term"): "(text)",
     (designtexts, "design_text"): "(design)",
     (designtexts, "read_design"): "(text)",
+    (settling, "settled"): "(design, given)",
+    (bodies, "body_done"): "(body, values)",
 }
 CLASSES = {
     (designs, "Design"): {
@@ -39,6 +43,22 @@ CLASSES = {
         "what_of": "(self, name)",
         "origins": "(self, name)",
         "is_chain": "(self, name)",
+    },
+    (nets, "Net"): {
+        "__init__": "(self, design)",
+        "gates": "(self)",
+        "outlet": "(self, name)",
+        "sets": "(self, block)",
+        "signs": "(self, given)",
+    },
+    (netruns, "NetRun"): {
+        "__init__": "(self, design)",
+        "moment": "(self, changes=None, *, deltas=40)",
+        "value": "(self, name)",
+        "all_values": "(self)",
+        "moments": "(self)",
+        "is_clear": "(self)",
+        "copied": "(self)",
     },
 }
 
@@ -80,6 +100,19 @@ class Interface(unittest.TestCase):
         self.assertIs(design.is_chain(name="w"), False)
         self.assertEqual(designtexts.design_text(design=design), TEXT)
         self.assertEqual(designtexts.read_design(text=TEXT), design)
+
+    def test_runs_and_nets_by_the_names_told(self):
+        design = designs.Design(SIGNALS, BLOCKS)
+        given = {"clk": "0", "d": "0000", "q": "0000", "n": "0"}
+        values = settling.settled(given=given, design=design)
+        self.assertEqual(bodies.body_done(values=values, body=()), ({}, {}))
+        net = nets.Net(design=design)
+        self.assertEqual(net.outlet(name="w"), net.outlet("w"))
+        self.assertEqual(net.sets(block="up"), net.sets("up"))
+        self.assertEqual(net.signs(given=given), net.signs(given))
+        run = netruns.NetRun(design=design)
+        self.assertEqual(run.moment(deltas=3, changes={"clk": "0"}), 0)
+        self.assertEqual(run.value(name="clk"), "0")
 
     def test_by_the_names_told(self):
         self.assertIs(bits.is_value(thing="01", width=2), True)
