@@ -4,7 +4,7 @@ from deltawires.bits import is_put_value
 from deltawires.edges import EDGES
 from deltawires.errors import Clash
 from deltawires.signalrows import SORTS, WIRE_SORTS, hangings
-from deltawires.statements import is_body, names_set
+from deltawires.statements import is_body, names_set_by
 from deltawires.terms import has_width, is_name, is_width
 
 MOST_SIGNALS = 24
@@ -107,8 +107,8 @@ def check_blocks(blocks, widths, kept):
 
 
 def check_both(blocks, kept):
-    now = [name for row in blocks for name in names_set(row[3], "now")]
-    later = [name for row in blocks for name in names_set(row[3], "later")]
+    now = names_set_by(blocks, "now")
+    later = names_set_by(blocks, "later")
     for name in kept:
         if name in now and name in later:
             raise Clash("both", name)

@@ -2,7 +2,7 @@
 
 from deltawires.clashes import check_design
 from deltawires.errors import NoName
-from deltawires.signalrows import HELD_SORTS, WIRE_SORTS, hangings, names_of_row, reckoning_order
+from deltawires.signalrows import HELD_SORTS, WIRE_SORTS, hangings, names_of_row, reckoning_order, wires_stirred
 
 
 class Design:
@@ -15,6 +15,7 @@ class Design:
         self.row_by_name = {row[1]: row for row in self.signal_rows}
         self.hanging = hangings(self.signal_rows)
         self.reckoned_rows = reckoning_order(self.signal_rows, self.hanging)
+        self.stirred_by_name = wires_stirred(self.signal_rows)
 
     def __eq__(self, other):
         return (

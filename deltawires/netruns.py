@@ -3,10 +3,10 @@
 from deltawires.bits import TOLD
 from deltawires.bodies import body_done
 from deltawires.changes import checked_changes
-from deltawires.edges import is_edge
+from deltawires.edges import woken
 from deltawires.errors import NoName, Unending
 from deltawires.settling import settled
-from deltawires.statements import names_set
+from deltawires.statements import names_set_by
 
 DELTAS = 40
 
@@ -18,25 +18,15 @@ def first_values(design):
     return {**unknown, **kept}
 
 
-def names_set_later(design):
-    """The names of the kept signals that some block sets later."""
-    return [name for row in design.block_rows for name in names_set(row[3], "later")]
-
-
 def are_triggers_told(design, values):
     return all([values[row[2]] in TOLD for row in design.block_rows])
 
 
-def woken_bodies(design, ahead, now):
-    """The bodies of the blocks whose trigger had their edge, in order."""
-    return [body for name, edge, trigger, body in design.block_rows if is_edge(edge, ahead[trigger], now[trigger])]
-
-
-def behind_round(design, values, bodies):
+def behind_round(design, values, blocks):
     """The settled values behind a round; each body goes by those ahead of it, and the later body counts."""
     changed = dict(values)
-    for body in bodies:
-        now, later = body_done(body, values)
+    for row in blocks:
+        now, later = body_done(row[3], values)
         changed = {**changed, **now, **later}
     return settled(design, changed)
 
@@ -47,7 +37,7 @@ class NetRun:
     def __init__(self, design):
         self.design = design
         self.standing = settled(design, first_values(design))
-        self.names_later = names_set_later(design)
+        self.names_later = names_set_by(design.block_rows, "later")
         self.many_over = 0
         self.all_told = True
 
@@ -58,16 +48,16 @@ class NetRun:
         told = are_triggers_told(self.design, now)
         rounds = 0
         many = 0
-        bodies = woken_bodies(self.design, ahead, now)
-        while bodies:
-            behind = behind_round(self.design, now, bodies)
+        blocks = woken(self.design.block_rows, ahead, now)
+        while blocks:
+            behind = behind_round(self.design, now, blocks)
             step = 1 if any([now[name] != behind[name] for name in self.names_later]) else 0
             if many + step > deltas or rounds > deltas:
                 raise Unending(many)
             many += step
             rounds += 1
             told = told and are_triggers_told(self.design, behind)
-            bodies = woken_bodies(self.design, now, behind)
+            blocks = woken(self.design.block_rows, now, behind)
             now = behind
         self.standing = now
         self.many_over += 1

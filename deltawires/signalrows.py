@@ -42,6 +42,12 @@ def hangings(rows):
     return {name: all_reached(name, straight) for name in straight}
 
 
+def wires_stirred(rows):
+    """A dict from each signal's name to the wires and buses in whose terms it stands, in order."""
+    wires = [(row[1], names_of_row(row)) for row in rows if row[0] in WIRE_SORTS]
+    return {row[1]: [wire for wire, names in wires if row[1] in names] for row in rows}
+
+
 def reckoning_order(rows, hanging):
     """The rows of all signals that are reckoned, each behind those that it hangs on."""
     reckoned = [row for row in rows if row[0] not in HELD_SORTS]

@@ -1,6 +1,6 @@
 """Bodies of blocks: tuples of statements, some of them within others."""
 
-from deltawires.terms import has_width
+from deltawires.terms import every_name, has_width
 
 MOST_STATEMENTS = 20
 DEEPEST_STATEMENT = 4
@@ -54,6 +54,20 @@ def every_statement(body):
 def names_set(body, word):
     """The names that a body sets anywhere by now or by later, the word told, each as often as it stands."""
     return [statement[1] for statement in every_statement(body) if statement[0] == word]
+
+
+def names_set_by(blocks, word):
+    """The names that the bodies of all blocks set anywhere by the word, each as often as it stands."""
+    return [name for row in blocks for name in names_set(row[3], word)]
+
+
+def term_of(statement):
+    return statement[1] if statement[0] == "if" else statement[2]
+
+
+def names_read(body):
+    """The names that stand in a body's terms, each as often as it stands."""
+    return [name for statement in every_statement(body) for name in every_name(term_of(statement))]
 
 
 def behind_if(statement, values, ahead, told, chosen):

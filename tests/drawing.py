@@ -159,3 +159,14 @@ def drawn_blocks(source, signals, many, apart=False):
 
 def drawn_given(source, signals, signs="01x"):
     return {row[1]: drawn_value(source, row[2], signs) for row in signals if row[0] in ("input", "kept")}
+
+
+def drawn_changes(source, signals, signs, at):
+    """Changes for the moment with this number; the input i0, which is most blocks' trigger, goes up and down."""
+    rows = [row for row in signals if row[0] == "input"]
+    if at == 0 and source.random() < 0.7:
+        return {row[1]: drawn_value(source, row[2], "01") for row in rows}
+    changes = {row[1]: drawn_value(source, row[2], signs) for row in rows if source.random() < 0.5}
+    if source.random() < 0.9:
+        changes["i0"] = "01"[at % 2]
+    return changes

@@ -4,7 +4,8 @@ import inspect
 import unittest
 
 from deltawires import (
-    bits, bodies, designs, designtexts, errors, netruns, nets, settling, tables, terms, termtexts,
+    bits, bodies, configurations, designs, designtexts, errors, eventruns, netruns, nets, orders, races, settling, tables,
+    terms, termtexts,
 )
 from designsamples import BLOCKS, SIGNALS, TEXT
 from samples import values_of_width
@@ -31,6 +32,13 @@ SIGNATURES = {
     (designtexts, "read_design"): "(text)",
     (settling, "settled"): "(design, given)",
     (bodies, "body_done"): "(body, values)",
+    (configurations, "begun"): "(design, values, changes=None)",
+    (configurations, "doable"): "(design, configuration, *, rule='settled')",
+    (configurations, "done"): "(design, configuration, thing)",
+    (races, "races"): "(design, *, rule='settled')",
+    (orders, "ends"): "(design, configuration, *, rule='settled', most=400)",
+    (orders, "is_alike"): "(design, paper, *, rule='settled')",
+    (orders, "ended"): "(design, configuration, things)",
 }
 CLASSES = {
     (designs, "Design"): {
@@ -58,6 +66,18 @@ CLASSES = {
         "all_values": "(self)",
         "moments": "(self)",
         "is_clear": "(self)",
+        "copied": "(self)",
+    },
+    (eventruns, "EventRun"): {
+        "__init__": "(self, design, *, rule='settled')",
+        "moment": "(self, changes=None, *, order=(), deltas=40, things=5000, watch=None)",
+        "value": "(self, name)",
+        "all_values": "(self)",
+        "moments": "(self)",
+        "is_busy": "(self)",
+        "done_last": "(self)",
+        "story": "(self)",
+        "book": "(self)",
         "copied": "(self)",
     },
 }
@@ -112,6 +132,23 @@ class Interface(unittest.TestCase):
         self.assertEqual(net.signs(given=given), net.signs(given))
         run = netruns.NetRun(design=design)
         self.assertEqual(run.moment(deltas=3, changes={"clk": "0"}), 0)
+        self.assertEqual(run.value(name="clk"), "0")
+
+    def test_events_and_orders_by_the_names_told(self):
+        design = designs.Design(SIGNALS, BLOCKS)
+        values = netruns.NetRun(design).all_values()
+        here = configurations.begun(changes={"d": "0000"}, values=values, design=design)
+        self.assertEqual(here[1:], (("w", "b"), (), ()))
+        self.assertEqual(configurations.doable(configuration=here, design=design), ["w", "b"])
+        there = configurations.done(thing="w", configuration=here, design=design)
+        self.assertEqual(there[1], ("b",))
+        self.assertEqual(orders.ended(things=["w"], configuration=here, design=design), there)
+        self.assertEqual(races.races(design=design)[0][0], "twice")
+        told = orders.ends(configuration=here, design=design)
+        self.assertEqual(told[0], "alike")
+        self.assertIs(orders.is_alike(paper=told[2], design=design), True)
+        run = eventruns.EventRun(design=design)
+        self.assertEqual(run.moment(changes={"clk": "0"}), 0)
         self.assertEqual(run.value(name="clk"), "0")
 
     def test_by_the_names_told(self):

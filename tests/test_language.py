@@ -219,7 +219,10 @@ class Names(Package):
                 for sign, other in zip(node.ops, node.comparators):
                     if isinstance(sign, (ast.Is, ast.IsNot)):
                         self.assertTrue(isinstance(other, ast.Constant) and other.value in (None, True, False), where)
-            self.assertNotIsInstance(node, ast.Pow, where)
+            if isinstance(node, (ast.BinOp, ast.AugAssign)) and isinstance(node.op, ast.Pow):
+                self.assertIsInstance(node, ast.BinOp, where)
+                self.assertIsInstance(node.right, ast.Constant, where)
+                self.assertTrue(0 <= node.right.value <= 64, where)
 
     def test_errors_are_caught_and_raised_by_name(self):
         for where, node in self.nodes():
@@ -230,6 +233,28 @@ class Names(Package):
             if isinstance(node, ast.Raise) and node.exc is not None:
                 self.assertIsInstance(node.exc, ast.Call, where)
                 self.assertIn(node.exc.func.id, self.own_errors(), where)
+
+    def is_simple(self, node):
+        """What L6 calls SIMPLE, as far as the package needs it."""
+        if isinstance(node, ast.Tuple):
+            return all(self.is_simple(part) for part in node.elts)
+        if isinstance(node, ast.Attribute):
+            return self.is_simple(node.value)
+        return isinstance(node, (ast.Name, ast.Constant))
+
+    def test_what_stands_in_a_finally(self):
+        for where, node in self.nodes():
+            for row in node.finalbody if isinstance(node, ast.Try) else []:
+                if isinstance(row, ast.Assign):
+                    self.assertEqual(len(row.targets), 1, where)
+                    self.assertIsInstance(row.targets[0], (ast.Name, ast.Attribute), where)
+                    self.assertTrue(self.is_simple(row.value), where)
+                else:
+                    self.assertIsInstance(row, ast.Expr, where)
+                    self.assertIsInstance(row.value, ast.Call, where)
+                    self.assertIn(row.value.func.attr, ("append", "clear"), where)
+                    self.assertNotIn(row.value.func.attr, self.methods() | self.stored_attributes(), where)
+                    self.assertTrue(all(self.is_simple(part) for part in row.value.args), where)
 
     def test_no_set_is_built(self):
         for where, node in self.nodes():

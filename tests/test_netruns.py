@@ -9,9 +9,9 @@ from deltawires.errors import NoName, NoValue, Unending
 from deltawires.netruns import DELTAS, NetRun
 from deltawires.settling import settled
 from designsamples import A, BLOCKS, C, K, ONE, Q, SIGNALS, ZERO, full_blocks, full_signals
-from drawing import drawn_blocks, drawn_signals
+from drawing import drawn_blocks, drawn_changes, drawn_signals
 from oracles import Refused, Run, statements_within
-from samples import NO_TEXTS, drawn_value, filled, source_of
+from samples import NO_TEXTS, filled, source_of
 
 CLOCK = ("input", "clk", 1, None)
 
@@ -544,17 +544,6 @@ class Clear(unittest.TestCase):
         for _ in range(3):
             run.moment({"a": "0"})
             self.assertIs(run.is_clear(), False)
-
-
-def drawn_changes(source, signals, signs, at):
-    """Changes for the moment with this number; the input i0, which is most blocks' trigger, goes up and down."""
-    rows = [row for row in signals if row[0] == "input"]
-    if at == 0 and source.random() < 0.7:
-        return {row[1]: drawn_value(source, row[2], "01") for row in rows}
-    changes = {row[1]: drawn_value(source, row[2], signs) for row in rows if source.random() < 0.5}
-    if source.random() < 0.9:
-        changes["i0"] = "01"[at % 2]
-    return changes
 
 
 class Drawn(unittest.TestCase):
