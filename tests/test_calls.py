@@ -4,8 +4,8 @@ import inspect
 import unittest
 
 from deltawires import (
-    bits, bodies, configurations, designs, designtexts, errors, eventruns, netruns, nets, orders, races, settling, tables,
-    terms, termtexts,
+    bits, bodies, both, configurations, designs, designtexts, desk, errors, eventruns, histories, netruns, nets, orders,
+    races, settling, tables, terms, termtexts, waves,
 )
 from designsamples import BLOCKS, SIGNALS, TEXT
 from samples import values_of_width
@@ -39,6 +39,12 @@ SIGNATURES = {
     (orders, "ends"): "(design, configuration, *, rule='settled', most=400)",
     (orders, "is_alike"): "(design, paper, *, rule='settled')",
     (orders, "ended"): "(design, configuration, things)",
+    (waves, "is_wave"): "(thing)",
+    (waves, "value_at"): "(wave, time)",
+    (waves, "held"): "(wave, least)",
+    (histories, "wave_of"): "(run, name)",
+    (histories, "waves_text"): "(waves)",
+    (histories, "read_waves"): "(text)",
 }
 CLASSES = {
     (designs, "Design"): {
@@ -80,7 +86,94 @@ CLASSES = {
         "book": "(self)",
         "copied": "(self)",
     },
+    (both, "Both"): {
+        "__init__": "(self, design, *, rule='settled')",
+        "moment": "(self, changes=None, *, order=())",
+        "all_values": "(self)",
+        "net_run": "(self)",
+        "event_run": "(self)",
+        "copied": "(self)",
+    },
+    (desk, "Desk"): {
+        "__init__": "(self, design, *, rule='settled')",
+        "say": "(self, row)",
+    },
 }
+NUMBERS = {
+    (bits, "WIDEST"): 8,
+    (netruns, "DELTAS"): 40,
+    (eventruns, "THINGS"): 5000,
+    (orders, "MOST"): 400,
+}
+
+DESIGN = designs.Design(SIGNALS, BLOCKS)
+GIVEN = {"clk": "0", "d": "0000", "q": "0000", "n": "0"}
+VALUES = settling.settled(DESIGN, GIVEN)
+HERE = configurations.begun(DESIGN, VALUES, {"clk": "1"})
+TERM = ("plus", ("of", "a"), ("is", "01"))
+WAVE = [(0, "x"), (3, "1")]
+
+# What stands ahead of each star, by the names that the interface gives.
+HANDED = {
+    "is_value": {"thing": "01"},
+    "read": {"value": "z1"},
+    "fillings": {"value": "x1"},
+    "number_of": {"value": "11"},
+    "value_of": {"number": 3},
+    "covers": {"one": "0x", "other": "01"},
+    "mixed": {"one": "11", "other": "01"},
+    "resolved": {"values": ["z1", "0z"]},
+    "operated": {"word": "plus", "values": ["01", "01"]},
+    "is_name": {"thing": "a"},
+    "is_term": {"thing": TERM},
+    "width_of": {"term": TERM, "widths": {"a": 2}},
+    "names_in": {"term": TERM},
+    "times_in": {"term": TERM, "name": "a"},
+    "value_of_term": {"term": TERM, "values": {"a": "01"}},
+    "term_text": {"term": TERM},
+    "read_term": {"text": "plus(a, '01)"},
+    "design_text": {"design": DESIGN},
+    "read_design": {"text": TEXT},
+    "settled": {"design": DESIGN, "given": GIVEN},
+    "body_done": {"body": BLOCKS[0][3], "values": VALUES},
+    "begun": {"design": DESIGN, "values": VALUES, "changes": {"clk": "1"}},
+    "doable": {"design": DESIGN, "configuration": HERE},
+    "done": {"design": DESIGN, "configuration": HERE, "thing": "up"},
+    "races": {"design": DESIGN},
+    "ends": {"design": DESIGN, "configuration": HERE},
+    "is_alike": {"design": DESIGN, "paper": [HERE]},
+    "ended": {"design": DESIGN, "configuration": HERE, "things": ["up", "b"]},
+    "is_wave": {"thing": WAVE},
+    "value_at": {"wave": WAVE, "time": 3},
+    "held": {"wave": WAVE, "least": 2},
+    "wave_of": {"run": eventruns.EventRun(DESIGN), "name": "clk"},
+    "waves_text": {"waves": {"a": WAVE}},
+    "read_waves": {"text": "at 0\na x\nat 3\na 1\n"},
+}
+HANDED_TO_METHODS = {
+    "sort_of": {"name": "w"},
+    "width_of_signal": {"name": "w"},
+    "what_of": {"name": "w"},
+    "origins": {"name": "w"},
+    "is_chain": {"name": "w"},
+    "outlet": {"name": "w"},
+    "sets": {"block": "up"},
+    "signs": {"given": GIVEN},
+    "moment": {"changes": {"clk": "0"}},
+    "value": {"name": "w"},
+    "say": {"row": "set clk 1"},
+}
+OBJECTS = ("copied", "net_run", "event_run")
+
+
+def shown(told):
+    """What is told, of runs what these tell."""
+    return told.all_values() if hasattr(told, "all_values") else told
+
+
+def ahead_of_star(function):
+    return [name for name, parameter in inspect.signature(function).parameters.items()
+            if parameter.kind == parameter.POSITIONAL_OR_KEYWORD and name != "self"]
 
 
 class Interface(unittest.TestCase):
@@ -101,6 +194,56 @@ class Interface(unittest.TestCase):
                 with self.subTest(name=name, method=method):
                     self.assertIn(method, vars(made))
                     self.assertEqual(str(inspect.signature(vars(made)[method])), expected)
+
+    def test_numbers(self):
+        for (module, name), expected in NUMBERS.items():
+            self.assertEqual(getattr(module, name), expected)
+        self.assertEqual((configurations.SETTLED, configurations.FREE), ("settled", "free"))
+
+    def test_each_function_by_names_and_by_places(self):
+        for module, name in SIGNATURES:
+            function, handed = getattr(module, name), HANDED[name]
+            with self.subTest(name):
+                self.assertEqual(list(handed), ahead_of_star(function))
+                by_names = function(**dict(reversed(list(handed.items()))))
+                self.assertEqual(by_names, function(*handed.values()))
+
+    def test_each_method_by_names_and_by_places(self):
+        for (module, name), methods in CLASSES.items():
+            made = getattr(module, name)
+            first = {"signals": SIGNALS, "blocks": BLOCKS} if name == "Design" else {"design": DESIGN}
+            self.assertEqual(list(first), ahead_of_star(made.__init__))
+            for method in methods:
+                if method == "__init__":
+                    continue
+                handed = HANDED_TO_METHODS.get(method, {})
+                with self.subTest(name=name, method=method):
+                    self.assertEqual(list(handed), ahead_of_star(vars(made)[method]))
+                    by_names = getattr(made(**first), method)(**handed)
+                    by_places = getattr(made(*first.values()), method)(*handed.values())
+                    self.assertEqual(shown(by_names), shown(by_places))
+                    self.assertEqual(hasattr(by_names, "all_values"), method in OBJECTS)
+
+    def test_told_lists_and_dicts_are_no_two_of_them_one(self):
+        for name, handed in HANDED.items():
+            function = [getattr(module, name) for module, other in SIGNATURES if other == name][0]
+            told, again = function(**handed), function(**handed)
+            if isinstance(told, (list, dict)):
+                self.assertIsNot(told, again, name)
+                kept = type(told)(told)
+                told.clear()
+                self.assertEqual(function(**handed), kept, name)
+        for (module, name), methods in CLASSES.items():
+            made = getattr(module, name)(SIGNALS, BLOCKS) if name == "Design" else getattr(module, name)(DESIGN)
+            for method in methods:
+                handed = HANDED_TO_METHODS.get(method, {})
+                if method in ("__init__", "moment", "say"):
+                    continue
+                told = getattr(made, method)(**handed)
+                if isinstance(told, (list, dict)):
+                    kept = type(told)(told)
+                    told.clear()
+                    self.assertEqual(getattr(made, method)(**handed), kept, (name, method))
 
     def test_terms_and_designs_by_the_names_told(self):
         self.assertIs(terms.is_name(thing="a"), True)

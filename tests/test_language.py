@@ -30,7 +30,7 @@ SPECIAL = re.compile(r"__[a-z]+__")
 VALUE_METHODS = set(
     "append clear copy count endswith extend find get index insert isalnum isalpha isdigit islower isspace isupper"
     " items join keys ljust lower lstrip partition pop remove replace reverse rfind rjust rpartition rsplit rstrip"
-    " setdefault split splitlines startswith strip update upper values zfill bit_length".split()
+    " setdefault split splitlines startswith strip update upper values zfill bit_length removeprefix".split()
 )
 BARRED_ATTRIBUTES = set(
     "items keys values pop update append clear extend insert remove reverse setdefault sort args encode decode hex"

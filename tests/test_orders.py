@@ -23,6 +23,16 @@ def kept(**firsts):
     return [("kept", name, len(first), first) for name, first in firsts.items()]
 
 
+class Sly:
+    """Claims to be equal to anything."""
+
+    def __eq__(self, other):
+        return True
+
+    def __hash__(self):
+        return 0
+
+
 def wires(many):
     """An input and so many wires that hang on it alone: two to that many configurations."""
     return Design(inputs("a") + [("wire", f"w{at}", 1, A) for at in range(many)])
@@ -136,6 +146,9 @@ class Ends(unittest.TestCase):
         design = swinging("now")
         for here in ((("1", "1"), (), ("up",), ()), (("1", "0"), (), ("down",), ())):
             self.assertEqual(self.shown(design, here)[0], "endless")
+            self.assertEqual(self.shown(design, here, most=2)[0], "endless")
+            with self.assertRaises(TooMany):
+                ends(design, here, most=1)
 
     def test_from_a_configuration_in_the_midst(self):
         design = both(("later", "q", ONE), ("now", "k", ONE))
@@ -403,6 +416,16 @@ class Papers(unittest.TestCase):
                 self.check(self.spoilt(1, (deep,)), False)
                 self.check(self.spoilt(3, (("q", deep),)), False)
                 self.check(self.spoilt(3, ((deep, "1"),)), False)
+
+    def test_what_claims_to_be_equal_to_all(self):
+        last = self.paper[-1]
+        self.check([(last[0], (Sly(),), (), ())], False)
+        self.check([(last[0], ("b", Sly()), (), ())], False)
+        self.check([(last[0], (), (Sly(), Sly()), ())], False)
+        self.check([(last[0], (), (), ((Sly(), "1"),)), last], False)
+        self.check([(last[0], (), (), (("q", Sly()),)), last], False)
+        self.check([(tuple([Sly()] * 6), (), (), ())], False)
+        self.check([Sly()], False)
 
     def test_a_ring_is_no_paper(self):
         design = swinging("now")
